@@ -1,0 +1,25 @@
+"""What one line of calls is made on."""
+
+from doubtviews.numbering import members, parts
+
+
+class View:
+    """The set of questions that it asks, its table, and how much it's trusted."""
+
+    def __init__(self, asked):
+        self.asked = asked
+        self.table = [1 for part in parts(asked)]
+        self.trust = 1
+
+
+class State:
+    """How many questions there are (0 ahead of a begin that's answered 0), and the views."""
+
+    def __init__(self):
+        self.questions = 0
+        self.views = []
+
+
+def chosen(state, number):
+    """The views of a set that is told as a number."""
+    return [state.views[place] for place in members(number)]
