@@ -76,9 +76,14 @@ def put_trust(state, place, trust):
     """A view is trusted so much from now on."""
     if place >= len(state.views):
         return [NO_VIEW]
-    if trust < 1 or trust > MOST_TRUST:
+    if not is_trust(trust):
         return [WRONG]
     view = state.views[place]
     before = view.trust
     view.trust = trust
     return [before]
+
+
+def is_trust(trust):
+    """Whether a view can be trusted so much."""
+    return 1 <= trust and trust <= MOST_TRUST

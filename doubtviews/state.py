@@ -20,6 +20,18 @@ class State:
         self.views = []
 
 
+def with_other(state, place, table, trust):
+    """A state of its own: as this one, but that the view at place has this table and is trusted so much."""
+    view = View(state.views[place].asked)
+    view.table = list(table)
+    view.trust = trust
+    other = State()
+    other.questions = state.questions
+    other.views = list(state.views)
+    other.views[place] = view
+    return other
+
+
 def chosen(state, number):
     """The views of a set that is told as a number."""
     return [state.views[place] for place in members(number)]

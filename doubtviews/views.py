@@ -1,13 +1,12 @@
 """Lines of calls on one object, and their answers."""
 
+from doubtviews.asking import ask_always, ask_blame, ask_cheapest, ask_conflicts, ask_cost, ask_enough, ask_fewest
+from doubtviews.asking import ask_if_table, ask_if_trust, ask_kept, ask_never, ask_together, ask_ways
 from doubtviews.changes import add_view, begin, drop_view, put_table, put_trust, see_world, tell_view
-from doubtviews.asking import ask_conflicts, ask_fewest, ask_together
-from doubtviews.refusals import NOT_BEGUN
+from doubtviews.refusals import NOT_BEGUN, WRONG
 from doubtviews.state import State
 
-
-class UnknownCall(ValueError):
-    """A call's number that stands for no call."""
+HIGHEST_KIND = 2
 
 
 def answers(calls):
@@ -53,10 +52,42 @@ def answer_change(state, call, numbers):
 
 def answer_question(state, call, numbers):
     """The answer of a call that asks about the views."""
-    if call == 7:
-        return ask_together(state, numbers[0], numbers[1])
+    if call == 19:
+        return ask_cost(state, numbers[0])
+    # All others have a kind first, and a kind that there isn't is refused ahead of all else.
+    kind = numbers[0]
+    if kind > HIGHEST_KIND:
+        return [WRONG]
+    if len(numbers) == 1:
+        return answer_of_all(state, call, kind)
+    return answer_of_some(state, call, kind, numbers[1:])
+
+
+def answer_of_all(state, call, kind):
+    """The answer of a call that asks about all views, by a kind."""
     if call == 8:
-        return ask_conflicts(state, numbers[0])
+        return ask_conflicts(state, kind)
     if call == 9:
-        return ask_fewest(state, numbers[0])
-    raise UnknownCall(f"no such call: {call}")
+        return ask_fewest(state, kind)
+    if call == 10:
+        return ask_cheapest(state, kind)
+    if call == 11:
+        return ask_ways(state, kind)
+    if call == 12:
+        return ask_never(state, kind)
+    if call == 13:
+        return ask_always(state, kind)
+    return ask_kept(state, kind)
+
+
+def answer_of_some(state, call, kind, numbers):
+    """The answer of a call that asks, by a kind, about a set of views or about one view."""
+    if call == 7:
+        return ask_together(state, kind, numbers[0])
+    if call == 14:
+        return ask_blame(state, kind, numbers[0])
+    if call == 15:
+        return ask_enough(state, kind, numbers[0])
+    if call == 16:
+        return ask_if_table(state, kind, numbers[0], numbers[1:])
+    return ask_if_trust(state, kind, numbers[0], numbers[1])

@@ -1,27 +1,9 @@
-"""Promises 2 and 3: together, conflicts and fewest, by each kind."""
+"""Together, conflicts and fewest, by each kind."""
 
 import unittest
 
-from lines import KINDS, LARGEST, last, numbers_from, table_of, told, with_views
-
-# Any two of the questions are answered otherwise, says each view.
-RING = with_views(3, [(3, (0, 1, 1, 0)), (5, (0, 1, 1, 0)), (6, (0, 1, 1, 0))])
-# As RING, but each world fits.
-SOFT_RING = with_views(3, [(3, (10, 45, 45, 10)), (5, (10, 45, 45, 10)), (6, (10, 45, 45, 10))])
-# Views 0 and 1 don't agree, view 2 agrees with both; each world fits.
-TWO_AND_ONE = with_views(3, [(1, (1, 2)), (3, (1, 1, 1, 1)), (6, (3, 3, 3, 3))])
-# Of three questions an even number is answered 1, say views 0 to 2, but view 3 says an odd one. So any two
-# of these views tell how the two questions stand that only one of them has, and any three tell one answer.
-# Views 4 and 5 say that two questions have nothing to do with one another.
-EVEN, ODD = (1, 0, 0, 1, 0, 1, 1, 0), (0, 1, 1, 0, 1, 0, 0, 1)
-EVEN_AND_ODD = with_views(4, [(7, EVEN), (11, EVEN), (13, EVEN), (14, ODD), (3, (1, 1, 1, 1)), (12, (2, 2, 2, 2))])
-# All six views tell of question 0 otherwise, but that all answers are seen.
-ALL_DIFFER = with_views(4, [
-    (1, (1, 2)), (3, (1, 1, 1, 1)), (5, (3, 1, 3, 1)), (9, (4, 1, 4, 1)),
-    (7, (5, 1, 5, 1, 5, 1, 5, 1)), (11, (6, 1, 6, 1, 6, 1, 6, 1)),
-])
-# No row that views 0 and 1 have seen is seen by view 2.
-LAST_IS_WRONG = with_views(3, [(3, (0, 1, 0, 1)), (5, (0, 2, 0, 2)), (1, (7, 0))])
+from lines import ALL_DIFFER, EVEN_AND_ODD, KINDS, LARGEST, LAST_IS_WRONG, PAIR_AND_RING, RING, SOFT_RING
+from lines import TWO_AND_ONE, last, table_of, told, with_views
 
 
 def six(whole):
@@ -141,9 +123,7 @@ class Conflicts(unittest.TestCase):
         self.assertEqual(self.ask(LAST_IS_WRONG), [[2, 5, 6], [2, 5, 6], [2, 5, 6]])
 
     def test_a_pair_and_a_ring_beside_it(self):
-        # Views 1, 2 and 3 are the ring, view 0 quarrels with view 3 of question 3.
-        views = [(8, (1, 0)), (3, (0, 1, 1, 0)), (5, (0, 1, 1, 0)), (14, (0, 0, 0, 0, 0, 1, 1, 0))]
-        self.assertEqual(self.ask(with_views(4, views)), [[2, 9, 14], [1, 9], [2, 9, 14]])
+        self.assertEqual(self.ask(PAIR_AND_RING), [[2, 9, 14], [1, 9], [2, 9, 14]])
 
     def test_six_views_any_two_of_which_differ(self):
         pairs = sorted(2 ** one + 2 ** other for one in range(6) for other in range(one))
@@ -190,61 +170,6 @@ class Fewest(unittest.TestCase):
         calls = LAST_IS_WRONG + [("unview", 0), ("fewest", 0), ("trust", 0, 8), ("fewest", 0), ("world", 0),
                                  ("fewest", 0), ("begin", 2), ("fewest", 0)]
         self.assertEqual(told(*calls)[-8:], [[2], [1, 1, 1], [1], [1, 1, 8], [2], [0, 0, 0], [0], [0, 0, 0]])
-
-
-class WhatHolds(unittest.TestCase):
-    def lines(self):
-        """Views of many makes: tables that come of one whole, and some of them changed a little."""
-        numbers = numbers_from(11)
-        for turn in range(60):
-            questions = 3 + turn % 2
-            whole = [max(0, next(numbers) % 7 - 3) for _ in range(2 ** questions)]
-            whole[next(numbers) % len(whole)] += 1
-            views = []
-            for _ in range(7):
-                asked = 1 + next(numbers) % (2 ** questions - 1)
-                if bin(asked).count("1") > 3 or asked in [view[0] for view in views] or len(views) == 6:
-                    continue
-                table = table_of(whole, asked)
-                if next(numbers) % 3 == 0:
-                    table = table[1:] + table[:1]
-                views.append((asked, table))
-            yield with_views(questions, views), len(views)
-
-    def can(self, calls, kind, many):
-        """Of each set of views, by its number, whether these can be together."""
-        seen = []
-        for start in range(0, 2 ** many, 32):
-            asked = [("together", kind, number) for number in range(start, min(start + 32, 2 ** many))]
-            seen += [answer == [1] for answer in told(*calls, *asked)[len(calls):]]
-        return seen
-
-    def test_conflicts_and_what_can_be_together(self):
-        for calls, many in self.lines():
-            for kind in KINDS:
-                can = self.can(calls, kind, many)
-                count, *quarrels = last(*calls, ("conflicts", kind))
-                self.assertEqual(count, len(quarrels))
-                self.assertEqual(quarrels, sorted(set(quarrels)))
-                for number in range(2 ** many):
-                    self.assertEqual(can[number], not any(number & quarrel == quarrel for quarrel in quarrels))
-                for quarrel in quarrels:
-                    self.assertEqual([other for other in quarrels if other & quarrel == other], [quarrel])
-                    self.assertTrue(kind != 1 or bin(quarrel).count("1") == 2)
-
-    def test_the_fewest_meet_each_conflict(self):
-        for calls, many in self.lines():
-            for kind in KINDS:
-                quarrels = last(*calls, ("conflicts", kind))[1:]
-                enough = [number for number in range(2 ** many) if all(number & quarrel for quarrel in quarrels)]
-                count, best = min((bin(number).count("1"), number) for number in enough)
-                self.assertEqual(last(*calls, ("fewest", kind)), [best, count, count])
-
-    def test_what_has_a_whole_agrees_and_some_world_fits_it(self):
-        for calls, many in self.lines():
-            by_world, by_two, by_whole = [self.can(calls, kind, many) for kind in KINDS]
-            for number in range(2 ** many):
-                self.assertTrue(not by_whole[number] or (by_world[number] and by_two[number]))
 
 
 if __name__ == "__main__":
